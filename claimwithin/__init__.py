@@ -1,0 +1,1 @@
+"""One claim within others: words, things, patterns, and what falls under what."""
