@@ -58,16 +58,16 @@ class Tape:
 class Answer:
     """A call's answer: a number, a list of numbers, and a text's bytes."""
 
-    def __init__(self, number, numbers=(), text=()):
+    def __init__(self, number, numbers=None, text=""):
         self.number = number
-        self.numbers = list(numbers)
-        self.text = list(text)
+        self.numbers = [] if numbers is None else list(numbers)
+        self.codes = [ord(sign) for sign in text]
 
     def told(self):
         """The answer as a list of whole numbers."""
-        if not self.numbers and not self.text:
+        if not self.numbers and not self.codes:
             return [self.number]
-        return [self.number, len(self.numbers)] + self.numbers + [len(self.text)] + self.text
+        return [self.number, len(self.numbers)] + self.numbers + [len(self.codes)] + self.codes
 
 
 class Desk:

@@ -36,7 +36,8 @@ OWN_VALUES_OUT = set("items keys values pop update append clear extend insert re
 
 
 def sources():
-    return {path.name: path.read_text(encoding="utf-8") for path in sorted(PACKAGE.glob("*.py"))}
+    """The package's files, by their names within it."""
+    return {str(path.relative_to(PACKAGE)): path.read_text(encoding="utf-8") for path in sorted(PACKAGE.rglob("*.py"))}
 
 
 def nodes_of(kinds):
@@ -44,6 +45,23 @@ def nodes_of(kinds):
     for name, text in sources().items():
         found.extend((name, node) for node in ast.walk(ast.parse(text)) if isinstance(node, kinds))
     return found
+
+
+def is_plain(node):
+    """Whether it's a whole number, a text, True, False or None, written out."""
+    if isinstance(node, ast.UnaryOp) and isinstance(node.op, ast.USub):
+        return isinstance(node.operand, ast.Constant) and type(node.operand.value) is int
+    return isinstance(node, ast.Constant) and type(node.value) in (int, str, bool, type(None))
+
+
+def defaults_out(text):
+    """The lines of those parameters' defaults that are no plain values, of defs, methods and lambdas."""
+    lines = []
+    for node in ast.walk(ast.parse(text)):
+        if isinstance(node, (ast.FunctionDef, ast.Lambda)):
+            given = node.args.defaults + [default for default in node.args.kw_defaults if default is not None]
+            lines.extend(default.lineno for default in given if not is_plain(default))
+    return sorted(lines)
 
 
 def bound_names(tree):
@@ -129,6 +147,29 @@ class LanguageTest(unittest.TestCase):
             self.assertIsNone(node.args.kwarg)
             self.assertEqual(node.args.kwonlyargs, [])
             self.assertIsNotNone(ast.get_docstring(node) or node.name in DUNDER_METHODS or None, (name, node.name))
+
+    def test_defaults(self):
+        for name, text in sources().items():
+            self.assertEqual(defaults_out(text), [], name)
+
+    def test_defaults_that_are_sent_back(self):
+        for default in ("()", "(1,)", "[]", "{}", "list()", "X", "1.5", "b''", "1 + 1", "-X", "not 1", "lambda: 1", "f''", "..."):
+            self.assertEqual(defaults_out(f"X = 1\ndef f(a, b={default}):\n    return a\n"), [2], default)
+            self.assertEqual(defaults_out(f"class C:\n    def __init__(self, a,\n            b=0, c={default}):\n        pass\n"), [3])
+            self.assertEqual(defaults_out(f"def f(a):\n    def g(b={default}, c=1):\n        return b\n    return g\n"), [2])
+            self.assertEqual(defaults_out(f"def f(a):\n    return lambda b={default}: b\n"), [2])
+            self.assertEqual(defaults_out(f"def f(a, *, b={default}):\n    return a\n"), [1])
+        self.assertEqual(defaults_out("def f(a, b=(), c=()):\n    return a\n"), [1, 1])
+
+    def test_defaults_that_are_plain(self):
+        for default in ("0", "7", "-1", "''", "'text'", "True", "False", "None"):
+            self.assertEqual(defaults_out(f"def f(a, b={default}):\n    return a\n"), [], default)
+            self.assertEqual(defaults_out(f"class C:\n    def m(self, a={default}):\n        pass\n"), [], default)
+
+    def test_each_file_is_looked_at(self):
+        files = {str(path.relative_to(PACKAGE)) for path in PACKAGE.rglob("*") if path.is_file() and path.suffix != ".pyc"}
+        self.assertEqual(set(sources()), files)
+        self.assertIn("desk.py", sources())
 
     def test_names(self):
         python_names = set(dir(builtins))
