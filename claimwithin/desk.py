@@ -2,9 +2,12 @@
 
 from claimwithin.claims import read_claims
 from claimwithin.faults import Fault
+from claimwithin.patterns import is_void
+from claimwithin.shown import shown_text
 from claimwithin.sizes import question_size
 from claimwithin.things import read_thing
 from claimwithin.ways import falls_under
+from claimwithin.within import first_outside
 from claimwithin.words import read_words
 
 WORDS = 1
@@ -12,8 +15,11 @@ THING = 2
 PATTERN = 3
 UNDER = 4
 SIZE = 5
-# Of each call how many whole numbers it has, and how many rows behind them;
-# 6 to 9 are within, all, same and least.
+WITHIN = 6
+ALL = 7
+SAME = 8
+LEAST = 9
+# Of each call how many whole numbers it has, and how many rows behind them.
 SHAPES = {
     1: (0, 1), 2: (0, 1), 3: (2, 1), 4: (2, 0), 5: (1, 1),
     6: (1, 1), 7: (0, 2), 8: (2, 0), 9: (1, 0),
@@ -22,6 +28,7 @@ SHAPES = {
 TOO_MANY = -1
 TOO_MUCH = -2
 NOT_THERE = -4
+VOID = -5
 FAULTY = -6
 NO_WORDS = -8
 FULL = -10
@@ -29,7 +36,7 @@ FULL = -10
 MOST_BYTES = 65536
 MOST_THINGS = 32
 MOST_PATTERNS = 32
-MOST_OTHERS = 8
+MOST_IN_LIST = 8
 LARGEST_SIZE = 256
 
 
@@ -92,7 +99,13 @@ class Desk:
             return self.answer_under(numbers[0], numbers[1])
         if call == SIZE:
             return self.answer_size(numbers[0], rows[0])
-        raise NotImplementedError("within, all, same and least are not built yet")
+        if call == WITHIN:
+            return self.answer_all([numbers[0]], rows[0])
+        if call == ALL:
+            return self.answer_all(rows[0], rows[1])
+        if call == SAME:
+            return self.answer_same(numbers[0], numbers[1])
+        return self.answer_least(numbers[0])
 
     def answer_words(self, codes):
         """Lets other words stand; what was read before is gone."""
@@ -143,16 +156,58 @@ class Desk:
 
     def answer_size(self, p, others):
         """The size of the question whether pattern p lies within the others."""
-        if len(others) > MOST_OTHERS:
-            return Answer(TOO_MANY)
-        if not self.has_patterns([p] + others):
-            return Answer(NOT_THERE)
-        size = question_size(self.words, self.patterns[p], [self.patterns[other] for other in others])
-        return Answer(TOO_MUCH if size > LARGEST_SIZE else size)
+        refused = self.refusal([p], others)
+        return Answer(refused if refused < 0 else self.size(p, others))
 
-    def has_patterns(self, numbers):
-        """Whether each of the numbers is a pattern's."""
-        return all([number < len(self.patterns) for number in numbers])
+    def answer_all(self, first, others):
+        """Whether each pattern of the first list lies within the others; if not, what shows it."""
+        refused = self.refusal(first, others)
+        if refused < 0:
+            return Answer(refused)
+        for p in first:
+            thing = self.outside(p, others)
+            if thing is not None:
+                return Answer(0, None, shown_text(self.words, thing))
+        return Answer(1)
+
+    def answer_same(self, p, q):
+        """Whether each of two patterns lies within the other."""
+        refused = self.refusal([p], [q]) or self.refusal([q], [p])
+        if refused < 0:
+            return Answer(refused)
+        return Answer(1 if self.outside(p, [q]) is None and self.outside(q, [p]) is None else 0)
+
+    def answer_least(self, p):
+        """Shows the first least thing of pattern p against no others."""
+        refused = self.refusal([p], [])
+        if refused < 0:
+            return Answer(refused)
+        if is_void(self.patterns[p], self.words):
+            return Answer(VOID)
+        return Answer(1, None, shown_text(self.words, self.outside(p, [])))
+
+    def refusal(self, first, others):
+        """Why it isn't told whether those of the first list lie within the others; 0 if it can be."""
+        if len(first) > MOST_IN_LIST or len(others) > MOST_IN_LIST:
+            return TOO_MANY
+        if not all([number < len(self.patterns) for number in first + others]):
+            return NOT_THERE
+        for p in first:
+            if self.size(p, others) > LARGEST_SIZE:
+                return TOO_MUCH
+        return 0
+
+    def size(self, p, others):
+        """How large the question is, however much that is."""
+        return question_size(self.words, self.patterns[p], self.numbered(others))
+
+    def outside(self, p, others):
+        """The first least thing of pattern p that falls under none of the others, or None."""
+        return first_outside(self.words, self.patterns[p], self.numbered(others))
+
+    def numbered(self, numbers):
+        """The patterns that have these numbers."""
+        return [self.patterns[number] for number in numbers]
 
 
 def answers(calls):

@@ -15,12 +15,20 @@ def cuts(measure, lo, hi, others):
     return sorted(found)
 
 
+def cuts_of_all(pattern, others):
+    """Of each of the pattern's ranges its cuts: elements in order, of each its measures in order."""
+    rows = []
+    for ranges in pattern.ranges:
+        for measure in sorted(ranges):
+            rows.append(cuts(measure, ranges[measure][0], ranges[measure][1], others))
+    return rows
+
+
 def question_size(words, pattern, others):
     """The number of choices of cuts; 0 of a void pattern."""
     if is_void(pattern, words):
         return 0
     choices = 1
-    for ranges in pattern.ranges:
-        for measure, span in ranges.items():
-            choices = choices * len(cuts(measure, span[0], span[1], others))
+    for row in cuts_of_all(pattern, others):
+        choices = choices * len(row)
     return choices

@@ -32,18 +32,27 @@ class Family:
 
 
 class Words:
-    """What a words' text tells; names has the names of all sorts."""
+    """What a words' text tells; names has the names of all sorts.
+
+    foes has, by the lower term of a never pair, the set of the higher ones: there may be far more pairs than terms.
+    """
 
     def __init__(self):
         self.terms = Family()
         self.nevers = []
+        self.foes = {}
         self.measures = {}
         self.links = Family()
         self.names = {}
 
+    def add_never(self, low, high):
+        """Adds a never pair."""
+        self.nevers.append((low, high))
+        self.foes[low] = self.foes.get(low, 0) | (1 << high)
+
     def clashes(self, kinds):
         """Whether a closed set of terms has both of some never pair."""
-        return any([(kinds >> low) & (kinds >> high) & 1 for low, high in self.nevers])
+        return any([(kinds >> low) & 1 and kinds & higher for low, higher in self.foes.items()])
 
     def counts(self):
         """How many terms, never pairs, measures and links there are."""
@@ -90,7 +99,7 @@ def read_never(cursor, words):
     cursor.need(" ")
     lowest = before[1] + 1 if low == before[0] else low + 1
     high = cursor.known(words.terms.numbers, lowest)
-    words.nevers.append((low, high))
+    words.add_never(low, high)
 
 
 def read_line(cursor, words, line):

@@ -1,5 +1,6 @@
 """Writes calls as lists of whole numbers, and takes the answers apart."""
 
+import itertools
 import unittest
 
 from claimwithin.desk import answers
@@ -40,6 +41,33 @@ def under(p, x):
 
 def size(p, others=()):
     return [5, p, len(others)] + list(others)
+
+
+def within(p, others=()):
+    return [6, p, len(others)] + list(others)
+
+
+def every(first, others):
+    """The call all, under a name that Python has not."""
+    return [7, len(first)] + list(first) + [len(others)] + list(others)
+
+
+def same(p, q):
+    return [8, p, q]
+
+
+def least(p):
+    return [9, p]
+
+
+def shown(number, text):
+    """An answer with a text and no list."""
+    return [number, 0] + row(text)
+
+
+def claim(text):
+    """Reads the one claim whose lines are the text's."""
+    return pattern("claims\nclaim\n" + text)
 
 
 def take_apart(told):
@@ -131,3 +159,78 @@ def wrongs_of(sample):
 def letters(number):
     """A name of two letters, another one for each number up to 675."""
     return "abcdefghijklmnopqrstuvwxyz"[number // 26] + "abcdefghijklmnopqrstuvwxyz"[number % 26]
+
+
+DRAWN_WORDS = (
+    "term a\nterm b of a\nterm c\nterm d of b c\nterm e\nnever b e\nmeasure m\nmeasure n\nlink l\nlink k of l\nlink j\n"
+)
+TERM_NAMES = "abcde"
+LINK_NAMES = "lkj"
+ABOVE = {"a": "a", "b": "ab", "c": "c", "d": "abcd", "e": "e", "l": "l", "k": "lk", "j": "j"}
+
+
+def closed(names):
+    return {above for name in names for above in ABOVE[name]}
+
+
+def some(source, names, chance):
+    return [name for name in names if source.random() < chance]
+
+
+def is_clash(kinds):
+    return {"b", "e"} <= closed(kinds)
+
+
+class Made:
+    """A thing, or a pattern, of the drawn words: amounts are values, or ranges; only tells that a pattern is closed."""
+
+    def __init__(self, kinds, amounts, joins, only=False):
+        self.names = "pqrstuvw"[:len(kinds)]
+        self.kinds = kinds
+        self.amounts = amounts
+        self.joins = joins
+        self.only = only
+
+    def lines(self, written):
+        rows = []
+        for name, kinds, amounts in zip(self.names, self.kinds, self.amounts):
+            told = kinds + [f"{m}={written(amounts[m])}" for m in sorted(amounts)]
+            rows.append(" ".join(["part", name] + told) + "\n")
+        for pair in sorted(self.joins):
+            rows.extend(f"join {self.names[pair[0]]} {link} {self.names[pair[1]]}\n" for link in self.joins[pair])
+        return "".join(rows)
+
+    def thing_text(self):
+        return "thing\n" + self.lines(str)
+
+    def claim_text(self):
+        return self.lines(lambda span: f"{span[0]}..{span[1]}") + ("only\n" if self.only else "")
+
+
+def drawn(source, how_many, amount, chance, terms=TERM_NAMES):
+    """A thing, or an open pattern, drawn part by part."""
+    kinds = [some(source, terms, chance) for part in range(how_many)]
+    amounts = [{m: amount(source) for m in some(source, "mn", chance)} for part in range(how_many)]
+    joins = {pair: some(source, LINK_NAMES, chance) for pair in itertools.product(range(how_many), repeat=2)}
+    return Made(kinds, amounts, joins)
+
+
+def is_way(thing_made, wanted, way):
+    for element, part in enumerate(way):
+        if not closed(wanted.kinds[element]) <= closed(thing_made.kinds[part]):
+            return False
+        for m, (lo, hi) in wanted.amounts[element].items():
+            if m not in thing_made.amounts[part] or not lo <= thing_made.amounts[part][m] <= hi:
+                return False
+    for pair, links in wanted.joins.items():
+        if not closed(links) <= closed(thing_made.joins[(way[pair[0]], way[pair[1]])]):
+            return False
+    return True
+
+
+def has_way(thing_made, wanted):
+    """Whether a thing falls under a pattern, by trying all ways."""
+    if wanted.only and len(thing_made.names) != len(wanted.names):
+        return False
+    ways = itertools.permutations(range(len(thing_made.names)), len(wanted.names))
+    return any(is_way(thing_made, wanted, way) for way in ways)

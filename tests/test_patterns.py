@@ -1,6 +1,6 @@
 import unittest
 
-from tests.helper import ReadingCase, WORDS, fault, pattern, run, size, thing, under, words
+from tests.helper import ReadingCase, WORDS, pattern, run, size, thing, under, words
 
 SAMPLE = (
     ("claims\n",

@@ -1,13 +1,9 @@
 import random
 import unittest
 
-from tests.helper import letters, pattern, run, size, words
+from tests.helper import claim, letters, run, size, words
 
 WORDS = "term a\nterm b of a\nterm c\nnever a c\nmeasure m\nmeasure n\nmeasure o\n"
-
-
-def claim(text):
-    return pattern("claims\nclaim\n" + text)
 
 
 def cut_count(lo, hi, spans):
@@ -92,6 +88,15 @@ class SizeTest(unittest.TestCase):
         self.assertEqual(self.told("part x m=-1..99\npart y m=-1..99\n", others), [256])
         self.assertEqual(self.told("part x m=-1..99\npart y m=-1..99\npart z m=14..99\n", others), [256])
         self.assertEqual(self.told("part x m=-1..100\npart y m=-1..99\n", others), [-2])
+
+    def test_just_above(self):
+        # The least size above 256 that there can be: 43 cuts, 3 cuts and 2 cuts.
+        others = ["".join(f"part {letters(e)} m={10 * o + 2 * e + 1}..{10 * o + 2 * e + 1}\n" for e in range(5)) for o in range(4)]
+        others += ["part x m=41..41 n=3..5\n"]
+        self.assertEqual(self.told("part x m=0..99\n", others), [43])
+        self.assertEqual(self.told("part x m=0..99 n=0..9\n", others), [129])
+        self.assertEqual(self.told("part x m=0..99 n=0..9\npart y n=0..4\n", others), [-2])
+        self.assertEqual(self.told("part x m=0..41 n=0..9\npart y n=0..4\n", others), [252])
 
     def test_a_huge_product(self):
         measures = "".join(f"measure m{letters(n)}\n" for n in range(8))

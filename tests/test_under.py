@@ -1,67 +1,12 @@
-import itertools
 import random
 import unittest
 
-from tests.helper import pattern, run, thing, under, words
-
-WORDS = "term a\nterm b of a\nterm c\nterm d of b c\nmeasure m\nmeasure n\nlink l\nlink k of l\nlink j\n"
-TERM_NAMES = ("a", "b", "c", "d")
-LINK_NAMES = ("l", "k", "j")
-ABOVE = {"a": "a", "b": "ab", "c": "c", "d": "abcd", "l": "l", "k": "lk", "j": "j"}
-
-
-def closed(names):
-    return {above for name in names for above in ABOVE[name]}
-
-
-def some(random_source, names, chance):
-    return [name for name in names if random_source.random() < chance]
-
-
-class Made:
-    """A thing or a pattern made by chance, and its text's lines."""
-
-    def __init__(self, random_source, how_many, amount, chance):
-        self.names = "pqrstuvw"[:how_many]
-        self.kinds = [some(random_source, TERM_NAMES, chance) for name in self.names]
-        self.amounts = [{m: amount(random_source) for m in some(random_source, "mn", chance)} for name in self.names]
-        self.joins = {}
-        for pair in itertools.product(range(how_many), repeat=2):
-            self.joins[pair] = some(random_source, LINK_NAMES, chance)
-
-    def lines(self, written):
-        rows = []
-        for name, kinds, amounts in zip(self.names, self.kinds, self.amounts):
-            told = kinds + [f"{m}={written(amounts[m])}" for m in amounts]
-            rows.append(" ".join(["part", name] + told) + "\n")
-        for pair, links in self.joins.items():
-            rows.extend(f"join {self.names[pair[0]]} {link} {self.names[pair[1]]}\n" for link in links)
-        return "".join(rows)
-
-
-def is_way(made, wanted, way):
-    for element, part in enumerate(way):
-        if not closed(wanted.kinds[element]) <= closed(made.kinds[part]):
-            return False
-        for m, (lo, hi) in wanted.amounts[element].items():
-            if m not in made.amounts[part] or not lo <= made.amounts[part][m] <= hi:
-                return False
-    for pair, links in wanted.joins.items():
-        if not closed(links) <= closed(made.joins[(way[pair[0]], way[pair[1]])]):
-            return False
-    return True
-
-
-def has_way(made, wanted, only):
-    if only and len(made.names) != len(wanted.names):
-        return False
-    ways = itertools.permutations(range(len(made.names)), len(wanted.names))
-    return any(is_way(made, wanted, way) for way in ways)
+from tests.helper import DRAWN_WORDS, drawn, has_way, pattern, run, thing, under, words
 
 
 class UnderTest(unittest.TestCase):
     def told(self, claims, things):
-        calls = [words(WORDS), pattern("claims\nclaim\n" + claims)] + [thing("thing\n" + text) for text in things]
+        calls = [words(DRAWN_WORDS), pattern("claims\nclaim\n" + claims)] + [thing("thing\n" + text) for text in things]
         told = run(*calls, *[under(0, x) for x in range(len(things))])
         self.assertEqual(told[1:2 + len(things)], [[0]] + [[x] for x in range(len(things))])
         return [answer[0] for answer in told[2 + len(things):]]
@@ -119,7 +64,7 @@ class UnderTest(unittest.TestCase):
 
     def test_no_such(self):
         told = run(
-            words(WORDS), under(0, 0), pattern("claims\nclaim\npart x\n"), under(0, 0), thing("thing\npart p\n"), under(0, 0),
+            words(DRAWN_WORDS), under(0, 0), pattern("claims\nclaim\npart x\n"), under(0, 0), thing("thing\npart p\n"), under(0, 0),
             under(1, 0), under(0, 1), under(4294967295, 0), under(0, 4294967295), under(1, 1),
         )
         self.assertEqual(told[1:], [[-4], [0], [-4], [0], [1], [-4], [-4], [-4], [-4], [-4]])
@@ -129,15 +74,12 @@ class UnderTest(unittest.TestCase):
         seen = {0: 0, 1: 0}
         for turn in range(60):
             parts = source.randint(1, 8)
-            things = [Made(source, parts, lambda r: r.randint(0, 9), 0.7) for x in range(6)]
-            wanted = Made(source, source.randint(1, min(5, parts + 1)), lambda r: (r.randint(0, 4), r.randint(3, 9)), 0.25)
-            only = source.random() < 0.3
-            told = self.told(
-                wanted.lines(lambda span: f"{span[0]}..{span[1]}") + ("only\n" if only else ""),
-                [made.lines(str) for made in things],
-            )
+            things = [drawn(source, parts, lambda r: r.randint(0, 9), 0.7, "abcd") for x in range(6)]
+            wanted = drawn(source, source.randint(1, min(5, parts + 1)), lambda r: (r.randint(0, 4), r.randint(3, 9)), 0.25, "abcd")
+            wanted.only = source.random() < 0.3
+            told = self.told(wanted.claim_text(), [made.thing_text()[len("thing\n"):] for made in things])
             for made, answer in zip(things, told):
-                self.assertEqual(answer, 1 if has_way(made, wanted, only) else 0)
+                self.assertEqual(answer, 1 if has_way(made, wanted) else 0)
                 seen[answer] += 1
         self.assertGreater(min(seen.values()), 50)
 
